@@ -1,0 +1,1 @@
+"""Bestsets: best sets that two rules allow, kept under changes."""
