@@ -1,5 +1,7 @@
 """The faults of lines of the kinds that are not made of others."""
 
+from bestsets.masks import mask_of, single_masks
+
 MOST_ELEMENTS = 14
 MOST_BOUND = 14
 MOST_VERTICES = 24
@@ -112,16 +114,6 @@ def are_bases(bases, size):
     if not all(is_subset(base, size) for base in bases):
         return False
     return len({len(base) for base in bases}) == 1 and len(set(bases)) == len(bases)
-
-
-def mask_of(members):
-    """The sum of 2 to the power of e for the elements e."""
-    return sum([1 << member for member in members])
-
-
-def single_masks(mask):
-    """The masks of the single elements of a set given by its mask."""
-    return [1 << place for place in range(mask.bit_length()) if mask >> place & 1]
 
 
 def cross(one, other):

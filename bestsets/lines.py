@@ -26,10 +26,15 @@ def fault(matroid):
 
 def size(matroid):
     """The size of the last line of a valid matroid."""
+    return line_sizes(matroid)[-1]
+
+
+def line_sizes(matroid):
+    """The sizes of all lines of a valid matroid."""
     sizes = []
     for line in matroid:
         sizes.append(line_size(line, sizes))
-    return sizes[-1]
+    return sizes
 
 
 def line_size(line, sizes):

@@ -145,3 +145,138 @@ def some_lines(seed, many):
     chance = random.Random(seed)
     kinds = (some_graph, some_vectors, some_choices, some_bounds, some_uniform, some_bases)
     return [kind(chance.randint(0, 6), chance) for kind in kinds for _ in range(many)]
+
+
+def moved_up(members, element):
+    """The elements of a deletion or contraction, as they are numbered in the line it was made of."""
+    return [member + 1 if member >= element else member for member in members]
+
+
+def code_of(members):
+    """The code of a set."""
+    return sum(2 ** member for member in members)
+
+
+def parts_of(code):
+    """The codes of all subsets of the set with this code."""
+    part = code
+    while part:
+        yield part
+        part = (part - 1) & code
+    yield 0
+
+
+def is_independent_made(line, code, counts, ranks):
+    """Whether a set is independent in a line of point 5, given the earlier lines' sizes and ranks."""
+    name, i = line[:2]
+    members = members_of(code)
+
+    def independent(number, inside):
+        return ranks[number][code_of(inside)] == len(inside)
+
+    if name == "dual":
+        return ranks[i][2 ** counts[i] - 1 - code] == ranks[i][-1]
+    if name == "delete":
+        return independent(i, moved_up(members, line[2]))
+    if name == "contract":
+        others = moved_up(members, line[2])
+        return independent(i, others + [line[2]] if independent(i, [line[2]]) else others)
+    if name == "sum":
+        low = [member for member in members if member < counts[i]]
+        return independent(i, low) and independent(line[2], [e - counts[i] for e in members if e >= counts[i]])
+    if name == "truncate":
+        return independent(i, members) and len(members) <= line[2]
+    return any(
+        independent(i, members_of(part)) and independent(line[2], members_of(code - part)) for part in parts_of(code)
+    )
+
+
+def made_count(line, counts):
+    """The number of elements of a line of point 5, given those of the earlier lines."""
+    count = counts[line[1]]
+    if line[0] == "sum":
+        return count + counts[line[2]]
+    return count - 1 if line[0] in ("delete", "contract") else count
+
+
+def made_ranks(line, counts, ranks):
+    """The ranks of all sets of a line of point 5 by their codes, from the definition of independent sets."""
+    found = [0]
+    for code in range(1, 2 ** made_count(line, counts)):
+        smaller = [found[code - 2 ** member] for member in members_of(code)]
+        # A set with a smaller set that is not independent is not independent.
+        independent = min(smaller) == len(smaller) - 1 and is_independent_made(line, code, counts, ranks)
+        found.append(len(smaller) if independent else max(smaller))
+    return found
+
+
+def ranks_of_lines(matroid):
+    """For each line of a matroid the ranks of all sets by their codes."""
+    counts = []
+    ranks = []
+    for line in matroid:
+        made = line[0] in ("dual", "delete", "contract", "sum", "truncate", "union")
+        ranks.append(made_ranks(line, counts, ranks) if made else all_ranks(line))
+        counts.append(made_count(line, counts) if made else count_of(line))
+    return ranks
+
+
+def bases_of(ranks):
+    """All bases in ascending order, given the ranks of all sets by their codes."""
+    found = [members_of(code) for code, rank in enumerate(ranks) if rank == ranks[-1] == len(members_of(code))]
+    return sorted(found)
+
+
+def union_depth(matroid, number):
+    """How many unions are nested in one another in a line."""
+    line = matroid[number]
+    earlier = line[1:3] if line[0] in ("sum", "union") else line[1:2]
+    if line[0] not in ("dual", "delete", "contract", "sum", "truncate", "union"):
+        return 0
+    return max(union_depth(matroid, other) for other in earlier) + (line[0] == "union")
+
+
+def some_made(counts, chance):
+    """A line made of lines with these sizes; it may be at fault."""
+    name = chance.choice(("dual", "delete", "contract", "sum", "truncate", "union"))
+    i = chance.randrange(len(counts))
+    if name == "dual":
+        return (name, i)
+    if name in ("delete", "contract"):
+        return (name, i, chance.randrange(max(1, counts[i])))
+    if name == "truncate":
+        return (name, i, chance.randint(0, min(14, counts[i] + 1)))
+    return (name, i, chance.randrange(len(counts)))
+
+
+def fits(matroid, counts, most):
+    """Whether the last line is valid, with at most so many elements and at most four unions in one another."""
+    name, i, *rest = matroid[-1]
+    if name in ("delete", "contract") and counts[i] == 0:
+        return False
+    if name == "sum" and counts[i] + counts[rest[0]] > most:
+        return False
+    if name == "union" and counts[i] != counts[rest[0]]:
+        return False
+    return union_depth(matroid, len(matroid) - 1) <= 4
+
+
+def some_matroid(chance, lines, most):
+    """A valid matroid of so many lines, each one with at most so many elements."""
+    kinds = (some_graph, some_vectors, some_choices, some_bounds, some_uniform, some_bases)
+    count = chance.randint(0, most)
+    first = chance.randint(1, min(lines, 3))
+    matroid = tuple(chance.choice(kinds)(chance.choice((count, chance.randint(0, most))), chance) for _ in range(first))
+    counts = [count_of(line) for line in matroid]
+    while len(matroid) < lines:
+        line = some_made(counts, chance)
+        if fits(matroid + (line,), counts, most):
+            matroid = matroid + (line,)
+            counts.append(made_count(line, counts))
+    return matroid
+
+
+def some_matroids(seed, many, lines, most):
+    """Many valid matroids of at most so many lines and elements, the same ones for the same seed."""
+    chance = random.Random(seed)
+    return [some_matroid(chance, chance.randint(1, lines), most) for _ in range(many)]

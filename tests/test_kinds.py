@@ -4,59 +4,11 @@ import random
 import unittest
 
 from definitions import all_ranks, count_of, members_of, orders_of, some_lines
+from samples import LONG_LINES
 
 from bestsets import kinds
 from bestsets.kinds import rank_of_kind
 from bestsets.lines import fault
-
-# Lines of 14 elements, and of 12 for bases.
-LONG_LINES = (
-    ("graph", 8, (
-        (0, 1), (1, 2), (2, 0), (3, 3), (3, 4), (4, 3), (4, 5),
-        (5, 6), (6, 3), (6, 7), (7, 7), (7, 0), (1, 0), (2, 5),
-    )),
-    ("graph", 24, tuple((vertex, vertex + 10) for vertex in range(14))),
-    ("graph", 24, tuple((23, 23 - vertex % 7) for vertex in range(14))),
-    ("vectors", 2, 8, (
-        (1, 0, 0, 0, 0, 0, 0, 0), (0, 1, 0, 0, 0, 0, 0, 1), (1, 1, 0, 0, 0, 0, 0, 1), (0, 0, 1, 0, 1, 0, 0, 0),
-        (0, 0, 0, 1, 0, 1, 0, 0), (0, 0, 1, 1, 1, 1, 0, 0), (1, 0, 1, 0, 1, 0, 0, 0), (0, 0, 0, 0, 0, 0, 1, 0),
-        (0, 0, 0, 0, 0, 0, 1, 1), (0, 0, 0, 0, 0, 0, 0, 1), (0, 0, 0, 0, 0, 0, 0, 0), (1, 1, 1, 1, 1, 1, 1, 1),
-        (0, 1, 0, 1, 0, 1, 0, 1), (1, 0, 1, 0, 1, 0, 1, 0),
-    )),
-    ("vectors", 3, 4, (
-        (1, 0, 2, 0), (2, 0, 1, 0), (0, 1, 1, 0), (1, 1, 0, 0), (2, 1, 2, 0), (0, 0, 0, 1), (0, 0, 0, 2),
-        (1, 2, 1, 2), (0, 0, 0, 0), (1, 0, 0, 0), (0, 2, 2, 1), (2, 2, 2, 2), (1, 1, 1, 1), (0, 1, 2, 0),
-    )),
-    ("vectors", 5, 3, (
-        (1, 2, 3), (2, 4, 1), (0, 0, 0), (1, 0, 0), (0, 1, 0), (1, 1, 0), (4, 4, 0),
-        (0, 0, 3), (1, 1, 2), (3, 1, 4), (2, 2, 2), (0, 4, 4), (1, 2, 0), (3, 1, 0),
-    )),
-    ("vectors", 7, 3, (
-        (1, 3, 5), (2, 6, 3), (1, 0, 6), (0, 1, 0), (6, 0, 1), (0, 6, 0), (1, 1, 1),
-        (1, 2, 4), (1, 3, 2), (1, 4, 2), (1, 5, 4), (1, 6, 1), (0, 0, 0), (3, 2, 1),
-    )),
-    ("vectors", 7, 0, ((),) * 14),
-    ("choices", 14, tuple((thing,) for thing in range(14))),
-    ("choices", 14, (
-        (0, 1), (1, 2), (0, 2), (0, 1, 2), (), (3, 13), (3,), (13,), (4, 5, 6), (4, 5), (4,), (6, 7), (7, 8), (8, 9),
-    )),
-    ("choices", 3, ((0, 1), (1, 2), (0, 2), (0, 1, 2), (), (0,), (1,)) * 2),
-    ("choices", 0, ((),) * 14),
-    ("bounds", 14, (
-        (tuple(range(14)), 7), (tuple(range(7)), 4), (tuple(range(7)), 5), ((0, 1, 2), 2), ((0, 1), 1),
-        ((3,), 0), ((7, 8, 9, 10), 2), ((8, 9), 1), ((12, 13), 14), ((), 0),
-    )),
-    ("bounds", 14, ()),
-    ("uniform", 14, 0),
-    ("uniform", 14, 5),
-    ("uniform", 14, 14),
-    ("bases", 12, tuple(
-        tuple(sorted((a, b, c))) for a in (0, 3, 6) for b in (1, 4, 7, 10) for c in (2, 5, 8, 9, 11)
-    )),
-    ("bases", 12, tuple((a, b) for a in range(12) for b in range(max(a + 1, 4), 12))),
-    ("bases", 12, (tuple(range(12)),)),
-    ("bases", 12, ((),)),
-)
 
 
 class KindsTest(unittest.TestCase):

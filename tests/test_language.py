@@ -1,6 +1,7 @@
 """The rules of the Python subset that a test can check line by line."""
 
 import ast
+import builtins
 import re
 import unittest
 from pathlib import Path
@@ -12,6 +13,19 @@ FORBIDDEN_WORDS = (
     "type", "typing", "enum", "Enum", "namedtuple", "NamedTuple", "dataclass", "abstractmethod", "global", "async",
     "register", "mro", "elements", "open", "input", "law", "eval", "exec", "globals", "locals", "vars", "frozenset",
 )
+
+BUILTINS = (
+    "len range enumerate zip min max sum abs sorted reversed int str bool bytes list tuple dict set isinstance ord repr "
+    "any all divmod pow map iter next super property staticmethod classmethod True False None NotImplemented Exception "
+    "ValueError TypeError KeyError IndexError LookupError ZeroDivisionError ArithmeticError OverflowError RuntimeError "
+    "NotImplementedError AttributeError StopIteration"
+).split()
+
+METHODS = (
+    "append clear copy count endswith extend find get index insert isalnum isalpha isdigit islower isspace isupper "
+    "items join keys ljust lower lstrip partition pop remove replace reverse rfind rjust rpartition rsplit rstrip "
+    "setdefault split splitlines startswith strip update upper values zfill bit_length add discard sort __init__"
+).split()
 
 
 class LanguageTest(unittest.TestCase):
@@ -57,6 +71,41 @@ class LanguageTest(unittest.TestCase):
         for path, node in nodes():
             for field in ("id", "attr", "name", "arg"):
                 self.assertNotIn(getattr(node, field, None), FORBIDDEN_WORDS, path.name)
+
+    def test_builtins_outside_the_subset(self):
+        for path, node in nodes():
+            if isinstance(node, ast.Name) and hasattr(builtins, node.id):
+                self.assertIn(node.id, BUILTINS, (path.name, node.lineno))
+                self.assertIsInstance(node.ctx, ast.Load, (path.name, node.lineno))
+            if isinstance(node, (ast.FunctionDef, ast.ClassDef)):
+                found = hasattr(builtins, node.name) and node.name != "__init__"
+                self.assertFalse(found, (path.name, node.lineno))
+            if isinstance(node, ast.arg):
+                self.assertFalse(hasattr(builtins, node.arg), (path.name, node.lineno))
+
+    def test_methods_are_own_ones_or_in_the_subset(self):
+        own = [node.name for _, node in nodes() if isinstance(node, ast.FunctionDef)]
+        for path, node in nodes():
+            if isinstance(node, ast.Call) and isinstance(node.func, ast.Attribute):
+                self.assertIn(node.func.attr, METHODS + own, (path.name, node.lineno))
+
+    def test_strings_without_signs_outside_the_subset(self):
+        for path, node in nodes():
+            if isinstance(node, ast.Constant) and isinstance(node.value, str):
+                self.assertNotIn("%", node.value, (path.name, node.lineno))
+                self.assertFalse(node.value.endswith(("._", ".__")), (path.name, node.lineno))
+
+    def test_names_are_bound_once_in_a_file(self):
+        for path in FILES:
+            names = []
+            for node in ast.parse(path.read_text()).body:
+                if isinstance(node, ast.ImportFrom):
+                    names += [alias.asname or alias.name for alias in node.names]
+                elif isinstance(node, ast.Assign):
+                    names += [target.id for target in node.targets]
+                elif isinstance(node, (ast.FunctionDef, ast.ClassDef)):
+                    names.append(node.name)
+            self.assertEqual(len(names), len(set(names)), path.name)
 
     def test_a_module_contains_only_definitions_and_plain_values(self):
         for path in FILES:
