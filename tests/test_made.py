@@ -5,7 +5,7 @@ import unittest
 from itertools import product
 
 from definitions import (
-    count_of, made_count, members_of, orders_of, ranks_of_lines, some_lines, some_matroids, union_depth,
+    count_of, made_count, members_of, orders_of, ranks_of_lines, some_lines, some_matroid, some_matroids, union_depth,
 )
 from samples import FOURS, LONG_LINES
 
@@ -188,10 +188,11 @@ class MadeTest(unittest.TestCase):
         self.check_some_sets(matroid[:5] + (("delete", 4, 11), ("uniform", 3, 1), ("sum", 5, 6), ("dual", 7)), 60)
 
     def test_20_lines(self):
-        for seed in range(3):
-            for matroid in some_matroids(seed, 60, 20, 5):
-                if len(matroid) == 20:
-                    self.check_every_set(matroid)
+        chance = random.Random(17)
+        for _ in range(8):
+            matroid = some_matroid(chance, 20, 5)
+            self.assertEqual(len(matroid), 20)
+            self.check_every_set(matroid)
 
     def test_20_lines_of_14_elements(self):
         rest = (("dual", 1), ("truncate", 2, 9), ("sum", 4, 0), ("contract", 5, 13))
