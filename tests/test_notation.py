@@ -91,13 +91,14 @@ UNREADABLE = (
     "graph 3 0,1", "graph 3 0<1", "graph 3 01", "graph 3 0", "graph 3 .", "graph 3 0-", "graph 3 -1", "graph 3 -",
     "graph 3 0-1-2", "graph 3 0_1", "graph 3 .-1", "vectors 2 2 0-1", "vectors 2 2 0<1", "vectors 2 2 0.1",
     "vectors 2 2 0,1,", "vectors 2 2 ,0,1", "vectors 2 2 0,,1", "vectors 2 2 ,", "vectors 2 2 0;1", "vectors 2 0 ..",
-    "choices 3 0-1", "choices 3 0,", "choices 3 ,0", "choices 3 0,,1", "choices 3 0.1", "choices 3 .,0", "choices 3 0,.",
+    "choices 3 0-1", "choices 3 0,", "choices 3 ,0", "choices 3 0,,1", "choices 3 0.1", "choices 3 .,0",
+    "choices 3 0,.",
     "bounds 3 0,1", "bounds 3 .", "bounds 3 0,1-1", "bounds 3 0>1", "bounds 3 0,<1", "bounds 3 0<", "bounds 3 <1",
     "bounds 3 0<1<2", "bounds 3 0<1,2", "bounds 3 0<.", "bounds 3 <", "bounds 3 ,<1", "bounds 3 .,0<1", "bases 3 0-1",
     "bases 3 0,", "bases 3 .0", "bases 3 0<1", "bases 3 ,",
     # Letters and digits of other kinds.
-    "graph x", "graph 3 a-b", "graph 3 0-b", "graph 0x3", "vectors 2 1 x", "vectors two 1", "choices 3 0,x", "bounds 3 x<1",
-    "bounds 3 0<x", "uniform 3 x", "uniform 1e1 1", "uniform 1_0 1", "uniform 3.0 1", "bases 3 x", "dual x", "dual 0x",
+    "graph x", "graph 3 a-b", "graph 3 0-b", "graph 0x3", "vectors 2 1 x", "vectors two 1", "choices 3 0,x",
+    "bounds 3 x<1", "bounds 3 0<x", "uniform 3 x", "uniform 1e1 1", "uniform 1_0 1", "uniform 3.0 1", "bases 3 x", "dual x", "dual 0x",
     "sum 0 x", "union 0 zero", "uniform \u0663 1", "uniform 3 \u00b2", "graph 3 0-\uff11", "dual \u0660",
 )
 
