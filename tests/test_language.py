@@ -16,8 +16,8 @@ FORBIDDEN_WORDS = (
 
 BUILTINS = (
     "len range enumerate zip min max sum abs sorted reversed int str bool bytes list tuple dict set isinstance ord "
-    "repr any all divmod pow map iter next super property staticmethod classmethod True False None NotImplemented Exception "
-    "ValueError TypeError KeyError IndexError LookupError ZeroDivisionError ArithmeticError OverflowError RuntimeError "
+    "repr any all divmod pow map iter next super property staticmethod classmethod True False None NotImplemented "
+    "Exception ValueError TypeError KeyError IndexError LookupError ZeroDivisionError ArithmeticError OverflowError RuntimeError "
     "NotImplementedError AttributeError StopIteration"
 ).split()
 

@@ -98,7 +98,8 @@ UNREADABLE = (
     "bases 3 0,", "bases 3 .0", "bases 3 0<1", "bases 3 ,",
     # Letters and digits of other kinds.
     "graph x", "graph 3 a-b", "graph 3 0-b", "graph 0x3", "vectors 2 1 x", "vectors two 1", "choices 3 0,x",
-    "bounds 3 x<1", "bounds 3 0<x", "uniform 3 x", "uniform 1e1 1", "uniform 1_0 1", "uniform 3.0 1", "bases 3 x", "dual x", "dual 0x",
+    "bounds 3 x<1", "bounds 3 0<x", "uniform 3 x", "uniform 1e1 1", "uniform 1_0 1", "uniform 3.0 1", "bases 3 x",
+    "dual x", "dual 0x",
     "sum 0 x", "union 0 zero", "uniform \u0663 1", "uniform 3 \u00b2", "graph 3 0-\uff11", "dual \u0660",
 )
 
