@@ -5,6 +5,7 @@ that they are made of. A chain of lines asks for the same ranks again and
 again, so the ranks that were found are kept.
 """
 
+from bestsets.errors import DifferentSizes
 from bestsets.kinds import rank_of_kind
 from bestsets.lines import line_sizes
 from bestsets.masks import members_of, single_masks
@@ -28,6 +29,14 @@ class Ranks:
     def rank(self, mask):
         """The rank of a set in the last line."""
         return self.line_rank(len(self.matroid) - 1, mask)
+
+    def takes(self, mask, element):
+        """Whether an independent set stays independent in the last line with an element outside it."""
+        return self.rank(mask | 1 << element) > self.rank(mask)
+
+    def part_ranks(self, mask):
+        """The ranks in the last line of all subsets of a set, in the order of sums_of."""
+        return self.table(len(self.matroid) - 1, 0, single_masks(mask))
 
     def line_rank(self, number, mask):
         """The rank of a set in the line with this number."""
@@ -69,6 +78,15 @@ class Ranks:
         if self.line_rank(number, base | sum(rest)) < most:
             return without + [rank + 1 for rank in without]
         return without + self.table(number, base | free[-1], rest)
+
+
+def ranks_of_two(first, second):
+    """The ranks of two matroids; raises DifferentSizes."""
+    one = Ranks(first)
+    other = Ranks(second)
+    if one.size() != other.size():
+        raise DifferentSizes()
+    return (one, other)
 
 
 def dual_rank(ranks, line, mask):
