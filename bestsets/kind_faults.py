@@ -23,7 +23,7 @@ def graph_fault(line):
     _, vertices, arcs = line
     if not 0 <= vertices <= MOST_VERTICES:
         return "vertices"
-    if len(arcs) > MOST_ELEMENTS or not all(all_below(arc, vertices) for arc in arcs):
+    if len(arcs) > MOST_ELEMENTS or not all(is_arc(arc, vertices) for arc in arcs):
         return "arcs"
     return None
 
@@ -94,6 +94,11 @@ def all_below(numbers, limit):
 def is_subset(numbers, limit):
     """Whether the numbers are below the limit and strictly ascending."""
     return all_below(numbers, limit) and list(numbers) == sorted(set(numbers))
+
+
+def is_arc(arc, vertices):
+    """Whether it is a pair of vertices."""
+    return len(arc) == 2 and all_below(arc, vertices)
 
 
 def is_vector(vector, prime, width):

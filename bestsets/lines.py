@@ -1,5 +1,6 @@
 """Matroids written as tuples of lines: their faults and their sizes."""
 
+from bestsets.errors import InvalidMatroid
 from bestsets.kind_faults import MOST_BOUND, MOST_ELEMENTS, kind_fault
 
 MOST_LINES = 20
@@ -22,6 +23,13 @@ def fault(matroid):
             return (number, word)
         sizes.append(line_size(line, sizes))
     return None
+
+
+def check_valid(matroid):
+    """Raises InvalidMatroid if a matroid is not valid."""
+    found = fault(matroid)
+    if found is not None:
+        raise InvalidMatroid(found[0])
 
 
 def size(matroid):

@@ -1,7 +1,7 @@
 """Matroids written as text, a line of words for each of their lines."""
 
-from bestsets.errors import InvalidLine, InvalidMatroid
-from bestsets.lines import fault
+from bestsets.errors import InvalidLine
+from bestsets.lines import check_valid
 
 MOST_DIGITS = 4
 
@@ -48,9 +48,7 @@ def write_bound(pair):
 def parse_matroid(text):
     """The matroid of a text; raises InvalidLine and InvalidMatroid."""
     matroid = tuple([parse_line(line, number) for number, line in enumerate(text.split("\n"))])
-    found = fault(matroid)
-    if found is not None:
-        raise InvalidMatroid(found[0])
+    check_valid(matroid)
     return matroid
 
 

@@ -50,9 +50,7 @@ class Groups:
     """A matroid in which at most one element of each group is taken; each element is given its group."""
 
     def __init__(self, groups):
-        masks = {}
-        for element, group in enumerate(groups):
-            masks[group] = masks.get(group, 0) | 1 << element
+        masks = group_masks(groups)
         self.masks = [masks[group] for group in groups]
 
     def size(self):
@@ -88,6 +86,32 @@ class Images:
         return self.known[mask]
 
 
+class Levels:
+    """The levels of a matroid that is truncated, for a list of weights."""
+
+    def __init__(self, ranks, limit, weights):
+        self.ranks = ranks
+        self.limit = limit
+        groups = group_masks(weights)
+        heavier = {weight: sum([groups[more] for more in groups if more > weight]) for weight in groups}
+        # For each element all elements of its weight, and all of a greater weight.
+        self.same = [groups[weight] for weight in weights]
+        self.heavier = [heavier[weight] for weight in weights]
+
+    def size(self):
+        """The number of elements."""
+        return len(self.same)
+
+    def takes(self, mask, element):
+        """Whether an independent set stays independent with an element: only the level of its weight changes."""
+        level = self.heavier[element] | mask & self.same[element]
+        return self.rank(level | 1 << element) > self.rank(level)
+
+    def rank(self, mask):
+        """The rank of a set in the truncated matroid."""
+        return min(self.ranks.rank(mask), self.limit)
+
+
 class Fold:
     """A k-fold matroid, made of the ranks of all sets of elements in the matroid by their masks."""
 
@@ -101,6 +125,14 @@ class Fold:
     def takes(self, mask, element):
         """Whether an independent set stays independent with an element."""
         return self.ranks[mask | 1 << element] > self.ranks[mask]
+
+
+def group_masks(groups):
+    """The set of the elements of each group; each element is given its group."""
+    masks = {}
+    for element, group in enumerate(groups):
+        masks[group] = masks.get(group, 0) | 1 << element
+    return masks
 
 
 def fold_ranks(ranks, count):

@@ -3,6 +3,8 @@
 import random
 from itertools import combinations, permutations, product
 
+MADE = ("dual", "delete", "contract", "sum", "truncate", "union")
+
 
 def count_of(line):
     """The number of elements of a line of point 3."""
@@ -215,7 +217,7 @@ def ranks_of_lines(matroid):
     counts = []
     ranks = []
     for line in matroid:
-        made = line[0] in ("dual", "delete", "contract", "sum", "truncate", "union")
+        made = line[0] in MADE
         ranks.append(made_ranks(line, counts, ranks) if made else all_ranks(line))
         counts.append(made_count(line, counts) if made else count_of(line))
     return ranks
@@ -231,14 +233,14 @@ def union_depth(matroid, number):
     """How many unions are nested in one another in a line."""
     line = matroid[number]
     earlier = line[1:3] if line[0] in ("sum", "union") else line[1:2]
-    if line[0] not in ("dual", "delete", "contract", "sum", "truncate", "union"):
+    if line[0] not in MADE:
         return 0
     return max(union_depth(matroid, other) for other in earlier) + (line[0] == "union")
 
 
 def some_made(counts, chance):
     """A line made of lines with these sizes; it may be at fault."""
-    name = chance.choice(("dual", "delete", "contract", "sum", "truncate", "union"))
+    name = chance.choice(MADE)
     i = chance.randrange(len(counts))
     if name == "dual":
         return (name, i)

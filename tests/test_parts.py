@@ -111,7 +111,8 @@ class DividedTest(unittest.TestCase):
         chance = random.Random(64)
         graph, vectors, choices, bounds = ((LONG_LINES[at],) for at in (0, 4, 10, 12))
         union = (LONG_LINES[2], LONG_LINES[5], ("union", 0, 1), ("truncate", 2, 4))
-        for first, second in ((graph, vectors), (vectors, bounds), (choices, vectors), (union, graph), (choices, union)):
+        pairs = ((graph, vectors), (vectors, bounds), (choices, vectors), (union, graph), (choices, union))
+        for first, second in pairs:
             self.assertEqual((size(first), size(second)), (14, 14))
             ranks, others = ranks_of_lines(first)[-1], ranks_of_lines(second)[-1]
             for many in (14, 9):
@@ -163,8 +164,9 @@ class FoldTest(unittest.TestCase):
             ranks = ranks_of_lines(matroid)[-1]
             for k in range(7):
                 members = chance.sample(range(14), 14 - k)
-                wanted = min(k * ranks[part] + len(members) - len(members_of(part)) for part in parts_of(code_of(members)))
-                self.assertEqual(fold_rank(matroid, k, members), wanted)
+                code = code_of(members)
+                least = min(k * ranks[part] + len(members_of(code - part)) for part in parts_of(code))
+                self.assertEqual(fold_rank(matroid, k, members), least)
 
     def test_arguments_are_not_modified(self):
         members = [2, 0]

@@ -50,7 +50,9 @@ def rich_bases(count, chance):
 
 
 # More than once what often makes rows long.
-RICH = (rich_graph, rich_vectors, rich_choices, rich_bounds, rich_uniform, rich_bases, rich_bounds, rich_bounds, rich_graph)
+RICH = (
+    rich_graph, rich_vectors, rich_choices, rich_bounds, rich_uniform, rich_bases, rich_bounds, rich_bounds, rich_graph,
+)
 
 
 def rich_matroid(count, chance):
